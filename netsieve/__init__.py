@@ -1,0 +1,1 @@
+"""Filters of packets, their code, and a machine that never gets stuck."""
