@@ -113,6 +113,96 @@ class Form(unittest.TestCase):
             if isinstance(node, ast.Call) and isinstance(node.func, ast.Attribute):
                 self.assertIn(node.func.attr, METHODS | own | set(UNDERSCORED), self.where(name, node))
 
+    def test_the_top_of_a_module(self):
+        for name, tree in self.trees.items():
+            self.assertIsNotNone(ast.get_docstring(tree), name)
+            for node in tree.body[1:]:
+                self.assertIsInstance(node, (ast.ImportFrom, ast.FunctionDef, ast.ClassDef, ast.Assign),
+                                      self.where(name, node))
+                if isinstance(node, ast.Assign):
+                    ast.literal_eval(node.value)
+            tops = [bound for node in tree.body for inner in ([node] + getattr(node, "targets", []))
+                    for bound in bound_names(inner)]
+            self.assertEqual(len(tops), len(set(tops)), name)
+
+    def test_lists_and_dicts_of_the_top_hold_tuples_and_are_only_read(self):
+        for name, tree in self.trees.items():
+            kept = [node.targets[0].id for node in tree.body
+                    if isinstance(node, ast.Assign) and isinstance(node.value, (ast.List, ast.Dict))]
+            for node in tree.body:
+                if isinstance(node, ast.Assign) and isinstance(node.value, (ast.List, ast.Dict)):
+                    inner = [part for part in ast.walk(node.value) if isinstance(part, (ast.List, ast.Dict))]
+                    self.assertEqual(len(inner), 1, self.where(name, node))
+            read = [part for node in ast.walk(tree) for part in self.read_parts(node)]
+            for node in ast.walk(tree):
+                if isinstance(node, ast.Name) and node.id in kept and isinstance(node.ctx, ast.Load):
+                    self.assertIn(node, read, self.where(name, node))
+
+    def read_parts(self, node):
+        if isinstance(node, ast.Subscript) and isinstance(node.ctx, ast.Load):
+            return [node.value]
+        if isinstance(node, ast.Compare) and isinstance(node.ops[0], (ast.In, ast.NotIn)):
+            return node.comparators
+        if isinstance(node, (ast.For, ast.comprehension)):
+            return [node.iter]
+        return []
+
+    def test_is_beside_none_and_truths_alone(self):
+        for name, node in self.walked():
+            if isinstance(node, ast.Compare) and isinstance(node.ops[0], (ast.Is, ast.IsNot)):
+                self.assertIn(ast.unparse(node.comparators[0]), ("None", "True", "False"), self.where(name, node))
+
+    def test_one_target_and_one_loop(self):
+        for name, node in self.walked():
+            if isinstance(node, ast.Assign):
+                self.assertEqual(len(node.targets), 1, self.where(name, node))
+                self.assertIsInstance(node.targets[0], (ast.Name, ast.Attribute, ast.Subscript), self.where(name, node))
+            if isinstance(node, ast.ListComp):
+                self.assertEqual(len(node.generators), 1, self.where(name, node))
+                self.assertLessEqual(len(node.generators[0].ifs), 1, self.where(name, node))
+
+    def test_no_local_is_called_like_an_import_or_a_class(self):
+        for name, tree in self.trees.items():
+            taken = [bound for node in tree.body if isinstance(node, (ast.ImportFrom, ast.ClassDef))
+                     for bound in bound_names(node)]
+            for node in ast.walk(tree):
+                if isinstance(node, (ast.arg, ast.Name)):
+                    self.assertFalse(set(bound_names(node)) & set(taken), self.where(name, node))
+
+    def test_no_two_files_draw_from_one_another(self):
+        drawn = {name[:-3]: [node.module.split(".")[1] for node in tree.body if isinstance(node, ast.ImportFrom)]
+                 for name, tree in self.trees.items()}
+        left = dict(drawn)
+        while left:
+            free = [name for name in left if not set(left[name]) & set(left)]
+            self.assertTrue(free, left)
+            left = {name: left[name] for name in left if name not in free}
+
+    def test_errors_are_made_on_the_spot(self):
+        for name, node in self.walked():
+            if isinstance(node, ast.Raise):
+                self.assertIsInstance(node.exc, ast.Call, self.where(name, node))
+
+    def test_no_name_is_a_method_and_a_value(self):
+        methods = {node.name for _, top in self.walked() if isinstance(top, ast.ClassDef) for node in top.body
+                   if isinstance(node, ast.FunctionDef)}
+        values = {node.attr for _, node in self.walked()
+                  if isinstance(node, ast.Attribute) and isinstance(node.ctx, ast.Store)}
+        self.assertEqual(methods & values, set())
+
+    def test_texts(self):
+        for name, node in self.walked():
+            if isinstance(node, ast.Constant) and isinstance(node.value, str):
+                self.assertNotIn("%", node.value, self.where(name, node))
+
+    def test_keywords(self):
+        allowed = {"sorted": ("key", "reverse"), "min": ("key", "default"), "max": ("key", "default"),
+                   "sum": ("start",), "enumerate": ("start",), "zip": ("strict",)}
+        for name, node in self.walked():
+            if isinstance(node, ast.Call) and node.keywords:
+                for keyword in node.keywords:
+                    self.assertIn(keyword.arg, allowed.get(ast.unparse(node.func), ()), self.where(name, node))
+
 
 if __name__ == "__main__":
     unittest.main()
